@@ -1,0 +1,1 @@
+"""Sandglasses: which times can be told by turning them."""
