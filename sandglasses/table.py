@@ -1,13 +1,18 @@
 """A table of sandglasses, and the answers to a line of calls about it."""
 
-from sandglasses.sand import above_when_turned, above_when_waited, minutes_to_wait
+from sandglasses.plans import shortest_plan, soonest_over, told_times
+from sandglasses.sand import above_at_the_beginning, above_when_turned, above_when_waited, minutes_to_wait
 
 BEGINS = 0
 GLASS = 1
 GOES = 2
+TELLS = 3
+TIMES = 4
+SOONEST = 5
 
 LONGEST_RUN = 9
 MOST_GLASSES = 3
+LATEST = 16
 
 OUT_OF_BOUNDS = -1
 NO_ROOM = -5
@@ -40,7 +45,7 @@ class Table:
         # The whole plan is looked through first: a missing glass is told ahead of a step that can't be done.
         if any([self.turns_missing_glass(step) for step in plan]):
             return [OUT_OF_BOUNDS]
-        above = [0] * len(self.runs)
+        above = above_at_the_beginning(self.runs)
         gone_by = 0
         gone_by_behind = []
         for place, step in enumerate(plan):
@@ -53,6 +58,26 @@ class Table:
             gone_by_behind.append(gone_by)
         return [gone_by] + gone_by_behind + above
 
+    def tells(self, time):
+        if time > LATEST:
+            return [OUT_OF_BOUNDS]
+        plan = shortest_plan(self.runs, time)
+        if plan is None:
+            return [CANNOT_BE_DONE]
+        return [len(plan)] + plan
+
+    def times(self):
+        told = told_times(self.runs, LATEST)
+        return [len(told)] + told
+
+    def soonest(self, time):
+        if time > LATEST:
+            return [OUT_OF_BOUNDS]
+        minute = soonest_over(self.runs, time, LATEST)
+        if minute is None:
+            return [CANNOT_BE_DONE]
+        return [minute]
+
     def turns_missing_glass(self, step):
         return step >> len(self.runs) > 0
 
@@ -64,6 +89,12 @@ def answer(table, call, numbers):
         return table.glass(numbers[0])
     if call == GOES:
         return table.goes(numbers)
+    if call == TELLS:
+        return table.tells(numbers[0])
+    if call == TIMES:
+        return table.times()
+    if call == SOONEST:
+        return table.soonest(numbers[0])
     raise UnknownCall(f"call {call} is not known")
 
 

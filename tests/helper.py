@@ -5,6 +5,7 @@ from sandglasses.table import answers
 LARGEST = 4294967295
 
 BEGINS = [0, 0, 0]
+TIMES = [4, 0, 0]
 
 
 def glass(minutes):
@@ -13,6 +14,14 @@ def glass(minutes):
 
 def goes(*plan):
     return [2, len(plan)] + list(plan) + [0]
+
+
+def tells(time):
+    return [3, 1, time, 0]
+
+
+def soonest(time):
+    return [5, 1, time, 0]
 
 
 def glasses(*runs):
@@ -43,6 +52,10 @@ def asked(*calls):
     return found
 
 
+def on(runs, call):
+    """What this call answers on a table of these glasses."""
+    return asked(*glasses(*runs), call)[-1]
+
+
 def plan_on(runs, *plan):
-    """What goes answers of this plan on a table of these glasses."""
-    return asked(*glasses(*runs), goes(*plan))[-1]
+    return on(runs, goes(*plan))

@@ -4,12 +4,14 @@ import contextlib
 import io
 import unittest
 
-from helper import BEGINS, LARGEST, glass, goes, line
+from helper import BEGINS, LARGEST, TIMES, glass, goes, line, soonest, tells
 from sandglasses.table import answers
 
 A_LINE = line([glass(4), glass(0), glass(7), goes(3, 1, 2, 2), goes(), goes(8), goes(3, 0, 0), BEGINS, goes(),
-               glass(LARGEST), goes(1)])
-ITS_ANSWERS = [1, 0, 1, -1, 1, 1, 7, 9, 4, 7, 8, 9, 0, 0, 3, 0, 0, 0, 1, -1, 2, -6, 2, 1, 0, 1, 0, 1, -1, 1, -1]
+               glass(LARGEST), goes(1), glass(6), glass(9), tells(12), tells(3), TIMES, soonest(3), tells(17),
+               soonest(1), goes(3)])
+ITS_ANSWERS = [1, 0, 1, -1, 1, 1, 7, 9, 4, 7, 8, 9, 0, 0, 3, 0, 0, 0, 1, -1, 2, -6, 2, 1, 0, 1, 0, 1, -1, 1, -1,
+               1, 0, 1, 1, 3, 2, 1, 1, 1, -6, 6, 5, 0, 6, 9, 12, 15, 1, 9, 1, -1, 1, -6, 4, 6, 6, 0, 3]
 
 
 def refuse(*ignored):
@@ -31,9 +33,19 @@ class AnswersTest(unittest.TestCase):
         self.assertEqual(answers([2, 0, 0]), [1, 0])
         self.assertEqual(answers([2, 1, 0, 0]), [2, -6, 0])
         self.assertEqual(answers([2, 1, 1, 0]), [1, -1])
+        self.assertEqual(answers([3, 1, 0, 0]), [1, 0])
+        self.assertEqual(answers([3, 1, 1, 0]), [1, -6])
+        self.assertEqual(answers([3, 1, 17, 0]), [1, -1])
+        self.assertEqual(answers([4, 0, 0]), [2, 1, 0])
+        self.assertEqual(answers([5, 1, 0, 0]), [1, 0])
+        self.assertEqual(answers([5, 1, 1, 0]), [1, -6])
+        self.assertEqual(answers([5, 1, 17, 0]), [1, -1])
 
     def test_several_calls(self):
         self.assertEqual(answers([1, 1, 4, 0, 1, 1, 7, 0, 2, 2, 3, 1, 0]), [1, 0, 1, 1, 5, 7, 4, 7, 1, 0])
+        self.assertEqual(answers([1, 1, 4, 0, 1, 1, 7, 0, 3, 1, 9, 0, 5, 1, 3, 0]), [1, 0, 1, 1, 5, 4, 3, 1, 2, 2, 1, 7])
+        self.assertEqual(answers([1, 1, 9, 0, 4, 0, 0, 1, 1, 6, 0, 4, 0, 0]),
+                         [1, 0, 3, 2, 0, 9, 1, 1, 6, 5, 0, 6, 9, 12, 15])
         self.assertEqual(answers(A_LINE), ITS_ANSWERS)
 
     def test_forty_calls(self):

@@ -2,45 +2,7 @@ import itertools
 import unittest
 
 from helper import LARGEST, asked, glasses, goes, plan_on
-
-
-class MinuteByMinute:
-    """The words of the document once more, watched a minute at a time, to hold the program against."""
-
-    def __init__(self, runs):
-        self.above = [0 for run in runs]
-        self.below = list(runs)
-        self.clock = 0
-
-    def turn(self, step):
-        for number in range(len(self.above)):
-            if step // 2 ** number % 2:
-                self.above[number], self.below[number] = self.below[number], self.above[number]
-
-    def wait(self):
-        """Whether a glass has run out: False if none was running."""
-        running = [number for number, sand in enumerate(self.above) if sand]
-        while running:
-            self.clock += 1
-            for number in running:
-                self.above[number] -= 1
-                self.below[number] += 1
-            if any(self.above[number] == 0 for number in running):
-                return True
-        return False
-
-
-def watched(runs, plan):
-    if any(step >= 2 ** len(runs) for step in plan):
-        return [-1]
-    table = MinuteByMinute(runs)
-    behind = []
-    for place, step in enumerate(plan):
-        table.turn(step)
-        if not table.wait():
-            return [-6, place]
-        behind.append(table.clock)
-    return [table.clock] + behind + table.above
+from slow import watched
 
 
 class EmptyPlanTest(unittest.TestCase):

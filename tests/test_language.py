@@ -20,6 +20,7 @@ BUILT_IN = """len range enumerate zip min max sum abs sorted reversed int str bo
 METHODS = """append clear copy count endswith extend find get index insert isalnum isalpha isdigit islower isspace
     isupper items join keys ljust lower lstrip partition pop remove replace reverse rfind rjust rpartition rsplit
     rstrip setdefault split splitlines startswith strip update upper values zfill bit_length""".split()
+BESIDE_IS = "None True False".split()
 SPECIAL_METHODS = "__init__ __eq__ __repr__ __str__ __len__".split()
 WORDS = """type typing typing_extensions enum Enum IntEnum StrEnum Flag IntFlag Generic Protocol ABC ABCMeta namedtuple
     NamedTuple TypedDict TYPE_CHECKING abstractmethod""".split()
@@ -89,6 +90,13 @@ class LanguageTest(unittest.TestCase):
                           if isinstance(node.value, (float, complex, bytes))])
         self.assert_none([(name, node) for name, node in self.each(ast.ListComp)
                           if len(node.generators) > 1 or len(node.generators[0].ifs) > 1])
+
+    def test_is_and_powers(self):
+        self.assert_none([(name, node) for name, node in self.each(ast.Compare)
+                          for sign, right in zip(node.ops, node.comparators)
+                          if isinstance(sign, (ast.Is, ast.IsNot)) and ast.unparse(right) not in BESIDE_IS])
+        self.assert_none([(name, node) for name, node in self.each(ast.BinOp) if isinstance(node.op, ast.Pow)
+                          and getattr(node.right, "value", None) not in range(65)])
 
     def test_functions_and_classes(self):
         self.assert_none([(name, node) for name, node in self.each(ast.FunctionDef, ast.ClassDef)
